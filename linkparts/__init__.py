@@ -1,0 +1,1 @@
+"""Parts of linkages put together: linkparts.linkage.answers is the way in."""
