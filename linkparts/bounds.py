@@ -1,13 +1,15 @@
 """The bounds that numbers and linkages keep to."""
 
 from linkparts.lines import count_word
-from linkparts.refusals import NotALinkage
+from linkparts.refusals import NoSuchLine, NotALinkage
 
 MOST_LINES = 24
 MOST_DYADS = 3
 MOST_OF_PLACE = 999
 MOST_OF_LENGTH = 999
 MOST_DIVISOR = 20
+LAST_LETTER = 25
+MOST_OF_NAME = 99
 
 
 def common_factor(n, d):
@@ -18,6 +20,11 @@ def common_factor(n, d):
         n = d
         d = rest
     return n
+
+
+def is_letter(letter):
+    """Whether there is a letter of that number."""
+    return letter <= LAST_LETTER
 
 
 def is_length(number):
@@ -38,6 +45,12 @@ def numbers_fit(line):
     if line.word == "pin":
         return all([is_place(number) for number in line.numbers])
     return all([is_length(number) for number in line.numbers])
+
+
+def check_line(lines, k):
+    """Refuses if there is no line k."""
+    if k >= len(lines):
+        raise NoSuchLine()
 
 
 def check_linkage(lines):

@@ -1,17 +1,11 @@
 """Puts copiers and inversors into a linkage."""
 
-from linkparts.bounds import MOST_DIVISOR, check_linkage, common_factor, is_length
+from linkparts.bounds import MOST_DIVISOR, check_line, check_linkage, common_factor, is_length, is_letter
 from linkparts.lines import Line, find_name
 from linkparts.refusals import NameTaken, NoSuchLine, WrongNumber
 
-LAST_LETTER = 25
 MOST_OF_FACTOR = 99
 NOTHING = (0, 1)
-
-
-def is_letter(letter):
-    """Whether there is a letter of that number."""
-    return letter <= LAST_LETTER
 
 
 def is_factor(n, d):
@@ -23,7 +17,9 @@ def is_factor(n, d):
 
 def check_points(lines, o, p):
     """Refuses if o and p aren't two lines."""
-    if o >= len(lines) or p >= len(lines) or o == p:
+    check_line(lines, o)
+    check_line(lines, p)
+    if o == p:
         raise NoSuchLine()
 
 

@@ -29,6 +29,13 @@ class NotALinkage(Refusal):
         Refusal.__init__(self, [-3])
 
 
+class NotClosed(Refusal):
+    """The figure that is asked for doesn't close."""
+
+    def __init__(self):
+        Refusal.__init__(self, [-3])
+
+
 class NoSuchLine(Refusal):
     """A line that is named isn't there, or two that must differ are one."""
 

@@ -115,6 +115,40 @@ class Language(unittest.TestCase):
                 if isinstance(node, ast.Call) and isinstance(node.func, ast.Attribute):
                     self.assertIn(node.func.attr, METHODS + own_methods, (path, node.lineno))
 
+    def test_methods_are_no_values(self):
+        methods, values = set(), set()
+        for path, tree in trees():
+            for node in ast.walk(tree):
+                if isinstance(node, ast.ClassDef):
+                    methods |= {method.name for method in node.body if isinstance(method, ast.FunctionDef)}
+                if isinstance(node, ast.Attribute) and isinstance(node.ctx, ast.Store):
+                    values.add(node.attr)
+        self.assertFalse(methods & values)
+        for kind in (str, int, list, tuple, dict, set, bytes, range, slice):
+            self.assertFalse(values & set(dir(kind)), kind)
+
+    def test_forms_that_are_out(self):
+        for path, tree in trees():
+            for node in ast.walk(tree):
+                where = (path, getattr(node, "lineno", 0))
+                self.assertFalse(isinstance(node, ast.BinOp) and isinstance(node.op, ast.Pow), where)
+                if isinstance(node, ast.Constant) and isinstance(node.value, str):
+                    self.assertNotIn("%", node.value, where)
+                if isinstance(node, ast.Compare) and isinstance(node.ops[0], (ast.Is, ast.IsNot)):
+                    self.assertIn(getattr(node.comparators[0], "value", 0), (None, True, False), where)
+                if isinstance(node, ast.Assign):
+                    self.assertIsInstance(node.targets[0], (ast.Name, ast.Attribute, ast.Subscript), where)
+                if isinstance(node, (ast.For, ast.comprehension)):
+                    self.assertNotIsInstance(node.iter, ast.Set, where)
+
+    def test_what_is_walked_on_the_spot(self):
+        walkers = ("zip", "enumerate", "reversed", "range")
+        for path, tree in trees():
+            on_the_spot = [node.iter for node in ast.walk(tree) if isinstance(node, (ast.For, ast.comprehension))]
+            for node in ast.walk(tree):
+                if isinstance(node, ast.Call) and isinstance(node.func, ast.Name) and node.func.id in walkers:
+                    self.assertIn(node, on_the_spot, (path, node.lineno))
+
 
 if __name__ == "__main__":
     unittest.main()

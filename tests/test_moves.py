@@ -2,9 +2,8 @@
 
 import unittest
 
-from tests.helper import BASE, PRINT, QUARTER, ask, lines_text, printed, scale, shift, take
+from tests.helper import BASE, HUGE, PRINT, QUARTER, ask, lines_text, printed, scale, shift, take
 
-HUGE = 9223372036854775807
 REST = ("rider D A B 1/2 -3", "crank E D 20", "dyad F E 30 B 40", "rider G F E -5/7 0")
 
 

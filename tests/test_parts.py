@@ -2,23 +2,13 @@
 
 import unittest
 
-from tests.helper import BASE, PRINT, ask, copier, inversor, lines_text, printed, take
+from tests.helper import BASE, HUGE, Refusals, ask, copier, inversor, lines_text, printed, take
 
-HUGE = 9223372036854775807
 D, E = 3, 4
 
 
 def pins(how_many):
     return lines_text(*[f"pin Q{k} {k} 1" for k in range(1, how_many + 1)])
-
-
-class Refusals(unittest.TestCase):
-    def check(self, answer, *calls):
-        """The last call is refused so, and the linkage stays as it was."""
-        before = ask(*calls[:-1], PRINT)[-1]
-        given = ask(*calls, PRINT)
-        self.assertEqual(given[-2], [answer], calls[-1])
-        self.assertEqual(given[-1], before)
 
 
 class Copier(Refusals):
