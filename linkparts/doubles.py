@@ -35,6 +35,11 @@ def units_between(top, divisor, squares, bits):
     return (least[0], most, least[1] > 0)
 
 
+def sign_beyond(top, divisor, squares, units):
+    """1, 0 or -1, as the exact quotient is more than so many units, just these or fewer."""
+    return sign_of(minus(times_whole(1 << UNIT_BITS, top), times_whole(units, divisor)), squares)
+
+
 def counted_units(top, divisor, squares):
     """How many whole units a quotient above 0 has, and whether it has more than these."""
     bits = FIRST_TRIAL_BITS
@@ -47,8 +52,11 @@ def counted_units(top, divisor, squares):
     if least == most and between[2]:
         return (least, True)
     # A whole number of units lies within what's known: only the exact number tells on which side it is.
-    more = sign_of(minus(times_whole(1 << UNIT_BITS, top), times_whole(most, divisor)), squares)
-    return (most if more >= 0 else least, more != 0)
+    beyond_most = sign_beyond(top, divisor, squares, most)
+    if beyond_most >= 0:
+        return (most, beyond_most > 0)
+    # What's known may begin just at the number itself.
+    return (least, between[2] or sign_beyond(top, divisor, squares, least) > 0)
 
 
 def is_rounded_away(kept, rest, half, more, negative, mode):

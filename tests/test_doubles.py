@@ -1,12 +1,14 @@
 """Exact numbers with roots and the doubles they're rounded to, nearer to borders than any small linkage comes."""
 
+import random
 import unittest
+from decimal import Decimal
 from fractions import Fraction
 
 from linkparts.doubles import double_bits
-from linkparts.enclosures import enclosed, enclosed_roots, root_below
+from linkparts.enclosures import enclosed, enclosed_roots, product, root_below
 from linkparts.surds import minus, plus, sign_of, times, with_root
-from tests.helper import MODES
+from tests.helper import MODES, NEAR
 
 MINUS = 1 << 63
 LEAST = Fraction(1, 1 << 1074)
@@ -19,6 +21,15 @@ def near_root_of_2(steps):
     for _ in range(steps):
         p, q = 3 * p + 4 * q, 2 * p + 3 * q
     return p, q
+
+
+def decimal_value(number, squares):
+    """A number with roots, to many digits."""
+    if len(number) == 1:
+        return Decimal(number[0])
+    half = len(number) // 2
+    root = decimal_value(squares[half.bit_length() - 1], squares).sqrt()
+    return decimal_value(number[:half], squares) + decimal_value(number[half:], squares) * root
 
 
 def bits(value, mode):
@@ -79,14 +90,41 @@ class Roots(unittest.TestCase):
 
     def test_enclosures_hold_the_number(self):
         squares = (ROOT_OF_2, (3, 2), (7, 1, 1, 0))
-        numbers = [(5,), (1, -1), (-3, 2), (1, 1, -1, 0), (-7, 5, 3, -2), (1, -2, 3, -4, 5, -6, 7, -8)]
-        for number in numbers:
-            narrow = enclosed(number, enclosed_roots(squares, 2000), 2000)
-            for places in (0, 1, 7, 64, 500):
+        dice = random.Random(1)
+        for trial in range(600):
+            number = tuple(dice.randint(-9, 9) for _ in range(dice.choice((1, 2, 4, 8))))
+            value = decimal_value(number, squares)
+            for places in (0, 1, 2, 5, 64, 300):
                 low, high = enclosed(number, enclosed_roots(squares, places), places)
-                self.assertLessEqual(low << 2000, narrow[0] << places)
-                self.assertLessEqual(narrow[1] << places, high << 2000)
-            self.assertLess(narrow[1] - narrow[0], 1 << 20)
+                self.assertLessEqual(low, value * (1 << places) + NEAR, (number, places))
+                self.assertLessEqual(value * (1 << places) - NEAR, high, (number, places))
+                self.assertLess(high - low, 3000, (number, places))
+
+    def test_enclosures_of_roots(self):
+        for under in list(range(1, 30)) + [10 ** 40]:
+            for places in (0, 1, 5, 64):
+                low, high = enclosed_roots(((under,),), places)[0]
+                self.assertLessEqual(low * low, under << 2 * places)
+                self.assertGreater(high * high, under << 2 * places)
+                self.assertLessEqual(high - low, 2)
+
+    def test_enclosures_of_roots_within_roots(self):
+        # What stands under the second root is known far less well than the first one is.
+        for much in (1000, -1000):
+            squares = (ROOT_OF_2, (2000, much))
+            root = decimal_value(squares[1], squares).sqrt()
+            for places in (0, 1, 5, 64, 300):
+                low, high = enclosed_roots(squares, places)[1]
+                self.assertLessEqual(low, root * (1 << places) + NEAR, (much, places))
+                self.assertLessEqual(root * (1 << places) - NEAR, high, (much, places))
+                self.assertLess(high - low, 3000, (much, places))
+
+    def test_enclosures_of_products(self):
+        for x, wanted in (((2, 5), (4, 35)), ((-5, -2), (-35, -4)), ((-5, 1), (-35, 7)), ((-1, 5), (-7, 35)),
+                          ((0, 0), (0, 0))):
+            self.assertEqual(product(x, (2, 7), 0), wanted)
+            self.assertEqual(product(x, (16, 56), 3), wanted)
+        self.assertEqual(product((-3, 3), (5, 5), 3), (-2, 2))
 
 
 class Doubles(unittest.TestCase):
@@ -164,6 +202,33 @@ class Doubles(unittest.TestCase):
                 self.assertEqual(found, double_bits((p, q), (scale,), (ROOT_OF_2,), mode))
                 exact = double_bits((2 * p, -2 * q), (scale * p, -scale * q), (ROOT_OF_2,), mode)
                 self.assertEqual(exact, double_bits((2,), (scale,), (), mode))
+
+    def test_a_whole_number_of_units_at_the_end_of_what_is_known(self):
+        # The divisor is 1 or 3, written with a whole root so many times that the trial bits end about one unit off,
+        # or that the divisor may be 0 by what they tell.
+        for exponent in list(range(100, 140)) + [1199, 1200, 1201]:
+            large = 1 << exponent
+            for whole, root in ((1, 3), (1, 5), (3, 7)):
+                divisor = (large * root + whole, -large)
+                for mode in MODES:
+                    found = double_bits((5 * whole,), divisor, ((root * root,),), mode)
+                    self.assertEqual(found, bits(Fraction(5), mode), (exponent, whole, root, mode))
+
+    def test_a_whole_number_of_units_between_the_ends_of_what_is_known(self):
+        # One root is known from below, one from above: the trial bits end some units off on both sides.
+        for exponent in range(100, 140):
+            large = 1 << exponent
+            for mode in MODES:
+                found = double_bits((5 + 2 * large, large, -large, 0), (1,), ((9,), (25,)), mode)
+                self.assertEqual(found, bits(Fraction(5), mode), (exponent, mode))
+
+    def test_less_than_a_unit_that_may_be_0_by_what_is_known(self):
+        # It is 2^-1250 at most, far below the least double; the trial bits tell only that it has some units at most.
+        p, q = near_root_of_2(275)
+        for exponent in range(550, 620):
+            for top, wanted in (((p, -q), [0, 0, 1, 0]), ((-p, q), [MINUS, MINUS + 1, MINUS, MINUS])):
+                found = [double_bits(top, (1 << exponent,), (ROOT_OF_2,), mode) for mode in MODES]
+                self.assertEqual(found, wanted, exponent)
 
 
 if __name__ == "__main__":

@@ -274,6 +274,9 @@ class FaultsOfRightForm(unittest.TestCase):
         self.assertEqual(ask(take(BASE + "pin D 0 01\n")), [[-6, 1, len(BASE) + 9]])
         self.assertEqual(ask(take(BASE + "pin D 0 5\n")), [[4]])
 
+    def test_pin_where_none_is_though_lengths_are_as_its_place(self):
+        self.assertEqual(ask(take(BASE + "dyad D C 3 B 4\npin E 3 4\n")), [[5]])
+
     def test_of_two_faults_the_one_looked_at_first(self):
         self.check("pin A 0 0", 4)
         self.check("dyad A Z 0 Z 0", 5)
